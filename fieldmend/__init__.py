@@ -1,0 +1,1 @@
+"""Orbits: fields grown from seeds, worn ones filled and mended."""
