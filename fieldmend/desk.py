@@ -1,5 +1,6 @@
 """The calls: each takes texts and whole numbers and answers a list of whole numbers."""
 
+from fieldmend.orbits import Field, all_can_act, clashing_places, first_knots, orbit_knots, orbit_sizes
 from fieldmend.texts import (
     LINE_END,
     MISSING,
@@ -27,3 +28,35 @@ def rule(r):
         return [-6, place]
     # Each move is one line, so the line ends count the moves.
     return [r.count(LINE_END)]
+
+
+# What every call on a chart and a rule refuses, in the document's order; 0 where that is nothing.
+def refusal(t, r):
+    if len(t) > MOST_CHART_BYTES or len(r) > MOST_RULE_BYTES:
+        return -2
+    if chart_fault(t) is not None or rule_fault(r) is not None:
+        return -6
+    if not all_can_act(t, r):
+        return -3
+    return 0
+
+
+def size(t, r):
+    refused = refusal(t, r)
+    if refused < 0:
+        return [refused]
+    field = Field(t, r)
+    sizes = orbit_sizes(field)
+    return [0, len(sizes), max(sizes.values()), len(first_knots(field)), len(clashing_places(field))]
+
+
+def of(x, y, t, r):
+    refused = refusal(t, r)
+    if refused < 0:
+        return [refused]
+    field = Field(t, r)
+    if x >= field.width or y >= field.height:
+        return [-4]
+    first = field.firsts[y * field.width + x]
+    places = field.firsts.count(first)
+    return [0, first % field.width, first // field.width, places, len(orbit_knots(field, first))]

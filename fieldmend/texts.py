@@ -65,6 +65,19 @@ def chart_fault(t):
     return None if whole else reach
 
 
+# This and the three below read only texts that are without a fault.
+def chart_width(t):
+    return t.index(LINE_END)
+
+
+def chart_height(t):
+    return t.count(LINE_END)
+
+
+def chart_knots(t):
+    return [byte for byte in t if byte != LINE_END]
+
+
 # Every number up to the greatest may end where it is, so digits are taken for
 # as long as the number stays within it; behind a leading 0 no digit may stand.
 def number_end(r, start, greatest):
@@ -95,3 +108,16 @@ def rule_fault(r):
     reach = rule_reach(r)
     whole = reach == len(r) and (reach == 0 or r[reach - 1] == LINE_END)
     return None if whole else reach
+
+
+# Behind each number stands one byte that is no digit, whichever it is.
+def rule_moves(r):
+    numbers = []
+    value = 0
+    for byte in r:
+        if is_digit(byte):
+            value = value * 10 + byte - DIGIT_0
+        else:
+            numbers.append(value)
+            value = 0
+    return [tuple(numbers[at:at + 3]) for at in range(0, len(numbers), 3)]

@@ -1,6 +1,18 @@
 """What the tests of several calls share."""
 
+import copy
+import inspect
+import sys
+import time
 import unittest
+
+# The widest, the highest and the square chart of the most knots.
+GREATEST = ((512, 128), (128, 512), (256, 256))
+# Rules of the most moves that can act on all of these.
+SIXTEEN_MOVES = ("".join(f"{2 * number % 8} {number * 37 % 512} {number * 101 % 512}/" for number in range(16)),
+                 "0 64 0/0 0 64/4 1 1/6 1 1/" * 4)
+SOON = 20
+FEW_CALLS = 40
 
 
 def text(written):
@@ -19,16 +31,37 @@ class Untouchable(list):
     __setitem__ = __delitem__ = __iadd__ = __imul__ = refuse_change
 
 
+def untouchable(value):
+    return Untouchable(value) if isinstance(value, list) else value
+
+
 class CallTest(unittest.TestCase):
     def check(self, call, handed, expected):
-        """The answer to a plain list and to an untouchable one, twice each, so that nothing can be kept."""
-        for given in (list(handed), Untouchable(handed)):
-            for time in ("first", "again"):
-                answer = call(given)
-                self.assertEqual(answer, expected, (time, bytes(handed[:60])))
+        """The answer to plain arguments and to untouchable ones, twice each, so that nothing can be kept."""
+        for given in (copy.deepcopy(handed), tuple(untouchable(value) for value in handed)):
+            for turn in ("first", "again"):
+                answer = call(*given)
+                self.assertEqual(answer, expected, (turn, shown(handed)))
                 self.assertIs(type(answer), list)
                 self.assertEqual([type(number) for number in answer], [int] * len(expected))
-                self.assertEqual(list(given), list(handed))
+                self.assertEqual(given, handed)
+
+    def ends_soon(self, call, *handed):
+        """The answer, if it comes within some seconds and by few calls within one another."""
+        allowed = sys.getrecursionlimit()
+        begun = time.process_time()
+        sys.setrecursionlimit(len(inspect.stack(0)) + FEW_CALLS)
+        try:
+            answer = call(*[untouchable(value) for value in handed])
+        finally:
+            sys.setrecursionlimit(allowed)
+        self.assertLess(time.process_time() - begun, SOON)
+        self.assertEqual([type(number) for number in answer], [int] * len(answer))
+        return answer
+
+
+def shown(handed):
+    return [bytes(value[:60]) if isinstance(value, list) else value for value in handed]
 
 
 def texts_over(signs, longest):

@@ -2,8 +2,7 @@ import unittest
 
 from fieldmend.desk import judge
 from helpers import CallTest, place_by_words, text, texts_over
-
-COLOURS = "abcdefghijklmnopqrstuvwxyzABCDEFGHIJKLMNOPQRSTUVWXYZ0123456789"
+from words import COLOURS
 
 
 def chart(width, height, knot="a"):
@@ -12,7 +11,7 @@ def chart(width, height, knot="a"):
 
 class JudgeTest(CallTest):
     def judged(self, written, *expected):
-        self.check(judge, text(written), list(expected))
+        self.check(judge, (text(written),), list(expected))
 
 
 class OrdinaryCharts(JudgeTest):
@@ -71,18 +70,18 @@ class Faults(JudgeTest):
         whole = text("ab./c.d/")
         for wrong in (0, 32, 33, 63, 255):
             for place in range(len(whole)):
-                self.check(judge, whole[:place] + [wrong] + whole[place + 1:], [-6, place])
-            self.check(judge, whole + [wrong], [-6, len(whole)])
+                self.check(judge, (whole[:place] + [wrong] + whole[place + 1:],), [-6, place])
+            self.check(judge, (whole + [wrong],), [-6, len(whole)])
 
     def test_every_byte_that_is_no_knot(self):
         knots = set(text(COLOURS + "."))
         for byte in range(256):
             if byte in knots:
-                self.check(judge, [byte, 10], [1 if byte == 46 else 0])
+                self.check(judge, ([byte, 10],), [1 if byte == 46 else 0])
             else:
-                self.check(judge, [byte, 10], [-6, 0])
-                self.check(judge, [97, byte], [0] if byte == 10 else [-6, 1])
-                self.check(judge, [97, 97, 10, 97, byte, 10], [-6, 4])
+                self.check(judge, ([byte, 10],), [-6, 0])
+                self.check(judge, ([97, byte],), [0] if byte == 10 else [-6, 1])
+                self.check(judge, ([97, 97, 10, 97, byte, 10],), [-6, 4])
 
     def test_line_ends_of_other_kinds(self):
         self.judged("a\r/", -6, 1)

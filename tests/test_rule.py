@@ -6,7 +6,7 @@ from helpers import CallTest, place_by_words, text, texts_over
 
 class RuleTest(CallTest):
     def ruled(self, written, *expected):
-        self.check(rule, text(written), list(expected))
+        self.check(rule, (text(written),), list(expected))
 
 
 class OrdinaryRules(RuleTest):
@@ -138,8 +138,8 @@ class Faults(RuleTest):
         for byte in range(256):
             if byte not in text("0123456789 /"):
                 for place in range(len(whole)):
-                    self.check(rule, whole[:place] + [byte] + whole[place + 1:], [-6, place])
-                self.check(rule, whole + [byte], [-6, len(whole)])
+                    self.check(rule, (whole[:place] + [byte] + whole[place + 1:],), [-6, place])
+                self.check(rule, (whole + [byte],), [-6, len(whole)])
 
 
 class ByTheWords(RuleTest):

@@ -1,0 +1,99 @@
+"""Worn charts with the orbits that a rule's moves make of their places.
+
+Places are numbered in order: row by row from the top, in a row from the left.
+"""
+
+from fieldmend.texts import MISSING, chart_height, chart_knots, chart_width, rule_moves
+
+
+class Field:
+    def __init__(self, t, r):
+        self.width = chart_width(t)
+        self.height = chart_height(t)
+        self.knots = chart_knots(t)
+        # For each place the first place of its orbit, which stands for the orbit.
+        self.firsts = first_places(self.width, self.height, rule_moves(r))
+
+
+# A turn by a quarter, or over a diagonal, makes columns of rows.
+def can_act(turn, width, height):
+    return turn % 2 == 0 or width == height
+
+
+def all_can_act(t, r):
+    width = chart_width(t)
+    height = chart_height(t)
+    return all([can_act(turn, width, height) for turn, a, b in rule_moves(r)])
+
+
+def turned(turn, x, y):
+    turns = ((x, y), (-y, x), (-x, -y), (y, -x), (-x, y), (-y, -x), (x, -y), (y, x))
+    return turns[turn]
+
+
+# A turn takes sums to sums, so where it takes a step to the right and a step
+# down tells where it takes every place.
+def move_targets(turn, a, b, width, height):
+    right_x, right_y = turned(turn, 1, 0)
+    down_x, down_y = turned(turn, 0, 1)
+    targets = []
+    for y in range(height):
+        for x in range(width):
+            column = (x * right_x + y * down_x + a) % width
+            row = (x * right_y + y * down_y + b) % height
+            targets.append(row * width + column)
+    return targets
+
+
+def first_places(width, height, moves):
+    ways = [move_targets(turn, a, b, width, height) for turn, a, b in moves]
+    firsts = [None] * (width * height)
+    for place in range(width * height):
+        if firsts[place] is None:
+            mark_orbit(place, ways, firsts)
+    return firsts
+
+
+# No move takes two places to one, so each leads round in circles: going it
+# forwards often enough goes it backwards, and forwards alone finds all.
+def mark_orbit(first, ways, firsts):
+    firsts[first] = first
+    waiting = [first]
+    while len(waiting) > 0:
+        place = waiting.pop()
+        for targets in ways:
+            target = targets[place]
+            if firsts[target] is None:
+                firsts[target] = first
+                waiting.append(target)
+
+
+# From each orbit's first place to how many places it has.
+def orbit_sizes(field):
+    sizes = {}
+    for first in field.firsts:
+        sizes[first] = sizes.get(first, 0) + 1
+    return sizes
+
+
+# From the first place of each orbit with knots to where the first of them is.
+def first_knots(field):
+    leaders = {}
+    for place, knot in enumerate(field.knots):
+        if knot != MISSING:
+            leaders.setdefault(field.firsts[place], place)
+    return leaders
+
+
+def clashing_places(field):
+    leaders = first_knots(field)
+    clashing = []
+    for place, knot in enumerate(field.knots):
+        if knot != MISSING and knot != field.knots[leaders[field.firsts[place]]]:
+            clashing.append(place)
+    return clashing
+
+
+def orbit_knots(field, first):
+    knots = [field.knots[place] for place in range(len(field.knots)) if field.firsts[place] == first]
+    return [knot for knot in knots if knot != MISSING]
