@@ -1,12 +1,22 @@
 """The calls: each takes texts and whole numbers and answers a list of whole numbers."""
 
-from fieldmend.orbits import Field, all_can_act, clashing_places, first_knots, orbit_knots, orbit_sizes
+from fieldmend.orbits import (
+    Field,
+    all_can_act,
+    clashing_places,
+    filled_knots,
+    first_knots,
+    orbit_knots,
+    orbit_sizes,
+)
 from fieldmend.texts import (
     LINE_END,
     MISSING,
     MOST_CHART_BYTES,
     MOST_RULE_BYTES,
     chart_fault,
+    chart_text,
+    is_colour,
     rule_fault,
 )
 
@@ -41,6 +51,15 @@ def refusal(t, r):
     return 0
 
 
+def column_and_row(field, place):
+    return [place % field.width, place // field.width]
+
+
+def text_answer(field, knots):
+    t = chart_text(knots, field.width)
+    return [len(t)] + t
+
+
 def size(t, r):
     refused = refusal(t, r)
     if refused < 0:
@@ -59,4 +78,28 @@ def of(x, y, t, r):
         return [-4]
     first = field.firsts[y * field.width + x]
     places = field.firsts.count(first)
-    return [0, first % field.width, first // field.width, places, len(orbit_knots(field, first))]
+    return [0] + column_and_row(field, first) + [places, len(orbit_knots(field, first))]
+
+
+def clash(t, r):
+    refused = refusal(t, r)
+    if refused < 0:
+        return [refused]
+    field = Field(t, r)
+    clashing = clashing_places(field)
+    if len(clashing) == 0:
+        return [-5]
+    leader = first_knots(field)[field.firsts[clashing[0]]]
+    return [0] + column_and_row(field, clashing[0]) + column_and_row(field, leader)
+
+
+def fill(ground, t, r):
+    refused = refusal(t, r)
+    if refused < 0:
+        return [refused]
+    if ground != 0 and not is_colour(ground):
+        return [-1]
+    field = Field(t, r)
+    if len(clashing_places(field)) > 0:
+        return [-9]
+    return text_answer(field, filled_knots(field, MISSING if ground == 0 else ground))

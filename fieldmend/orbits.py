@@ -31,22 +31,28 @@ def turned(turn, x, y):
     return turns[turn]
 
 
-# A turn takes sums to sums, so where it takes a step to the right and a step
-# down tells where it takes every place.
-def move_targets(turn, a, b, width, height):
-    right_x, right_y = turned(turn, 1, 0)
-    down_x, down_y = turned(turn, 0, 1)
+# A move is (m, a, b) and a turned place (X, Y), as the document writes them.
+def move_target(move, x, y, width, height):
+    spot = turned(move[0], x, y)
+    column = (spot[0] + move[1]) % width
+    row = (spot[1] + move[2]) % height
+    return row * width + column
+
+
+# The target's column hangs on the place's column or on its row, never on both,
+# and its row on the other one: so where the upper row and the left column go
+# tells where all the places go.
+def move_targets(move, width, height):
+    upper = [move_target(move, x, 0, width, height) for x in range(width)]
     targets = []
     for y in range(height):
-        for x in range(width):
-            column = (x * right_x + y * down_x + a) % width
-            row = (x * right_y + y * down_y + b) % height
-            targets.append(row * width + column)
+        shift = move_target(move, 0, y, width, height) - upper[0]
+        targets.extend([target + shift for target in upper])
     return targets
 
 
 def first_places(width, height, moves):
-    ways = [move_targets(turn, a, b, width, height) for turn, a, b in moves]
+    ways = [move_targets(move, width, height) for move in moves]
     firsts = [None] * (width * height)
     for place in range(width * height):
         if firsts[place] is None:
@@ -97,3 +103,14 @@ def clashing_places(field):
 def orbit_knots(field, first):
     knots = [field.knots[place] for place in range(len(field.knots)) if field.firsts[place] == first]
     return [knot for knot in knots if knot != MISSING]
+
+
+# Beside the knots that are there, an orbit's first knot tells all of it; the
+# ground is for orbits that have none.
+def filled_knots(field, ground):
+    leaders = first_knots(field)
+    filled = list(field.knots)
+    for place, first in enumerate(field.firsts):
+        if filled[place] == MISSING:
+            filled[place] = field.knots[leaders[first]] if first in leaders else ground
+    return filled

@@ -65,7 +65,7 @@ def chart_fault(t):
     return None if whole else reach
 
 
-# This and the three below read only texts that are without a fault.
+# From here on charts' texts are without a fault.
 def chart_width(t):
     return t.index(LINE_END)
 
@@ -76,6 +76,14 @@ def chart_height(t):
 
 def chart_knots(t):
     return [byte for byte in t if byte != LINE_END]
+
+
+def chart_text(knots, width):
+    t = []
+    for start in range(0, len(knots), width):
+        t.extend(knots[start:start + width])
+        t.append(LINE_END)
+    return t
 
 
 # Every number up to the greatest may end where it is, so digits are taken for

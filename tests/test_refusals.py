@@ -2,7 +2,7 @@
 
 import unittest
 
-from fieldmend.desk import of, size
+from fieldmend.desk import clash, fill, of, size
 from helpers import CallTest, text
 
 LONG_CHART = "a" * 66049
@@ -14,31 +14,21 @@ SQUARE = "ab/cd/"
 QUARTER = "1 0 0/"
 
 
-def size_arguments(chart, rule):
-    return text(chart), text(rule)
-
-
-def of_arguments(chart, rule):
-    return 0, 0, text(chart), text(rule)
-
-
-def of_nowhere_arguments(chart, rule):
-    return 4294967295, 4294967295, text(chart), text(rule)
-
-
-CALLS = ((size, size_arguments), (of, of_arguments), (of, of_nowhere_arguments))
+# Each call with what is handed in ahead of the chart and the rule: what it takes, and what it refuses only later.
+CALLS = ((size, ()), (of, (0, 0)), (of, (4294967295, 4294967295)), (clash, ()), (fill, (0,)), (fill, (99,)), (fill, (46,)),
+         (fill, (4294967295,)))
 
 
 class Refusals(CallTest):
     def refused(self, chart, rule, number):
-        for call, arguments in CALLS:
-            with self.subTest(call=call.__name__):
-                self.check(call, arguments(chart, rule), [number])
+        for call, ahead in CALLS:
+            with self.subTest(call=call.__name__, ahead=ahead):
+                self.check(call, (*ahead, text(chart), text(rule)), [number])
 
     def taken(self, chart, rule):
-        for call, arguments in CALLS:
-            with self.subTest(call=call.__name__):
-                self.assertNotIn(call(*arguments(chart, rule))[0], (-2, -6, -3))
+        for call, ahead in CALLS:
+            with self.subTest(call=call.__name__, ahead=ahead):
+                self.assertNotIn(call(*ahead, text(chart), text(rule))[0], (-2, -6, -3))
 
 
 class TooLong(Refusals):

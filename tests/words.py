@@ -74,6 +74,28 @@ class Worn:
         [orbit] = [orbit for orbit in self.orbits if place in orbit]
         return [0, *orbit[0], len(orbit), len(self.knots(orbit))]
 
+    def clash(self):
+        for place, first in self.clashes():
+            return [0, *place, *first]
+        return [-5]
+
+    def written(self, colour):
+        """The text of the chart with these colours at its places."""
+        return "".join("".join(colour[x, y] for x in range(self.width)) + "/" for y in range(self.height))
+
+    def filled(self, ground="."):
+        """The text of the chart filled, of one without a clash; a full stop for no ground."""
+        colour = dict(self.colour)
+        for orbit in self.orbits:
+            for place in orbit:
+                if colour[place] == ".":
+                    colour[place] = self.colour[self.knots(orbit)[0]] if self.knots(orbit) else ground
+        return self.written(colour)
+
+    def seeds(self):
+        firsts = [orbit[0] for orbit in self.orbits]
+        return self.written({place: self.colour[place] if place in firsts else "." for place in self.places})
+
 
 def drawn(number):
     """The chart and the rule of this number: always the same ones."""
