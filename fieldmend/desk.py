@@ -6,8 +6,10 @@ from fieldmend.orbits import (
     clashing_places,
     filled_knots,
     first_knots,
+    mended_knots,
     orbit_knots,
     orbit_sizes,
+    seed_knots,
 )
 from fieldmend.texts import (
     LINE_END,
@@ -103,3 +105,19 @@ def fill(ground, t, r):
     if len(clashing_places(field)) > 0:
         return [-9]
     return text_answer(field, filled_knots(field, MISSING if ground == 0 else ground))
+
+
+def seeds(t, r):
+    refused = refusal(t, r)
+    if refused < 0:
+        return [refused]
+    field = Field(t, r)
+    return text_answer(field, seed_knots(field))
+
+
+def mend(t, r):
+    refused = refusal(t, r)
+    if refused < 0:
+        return [refused]
+    field = Field(t, r)
+    return text_answer(field, mended_knots(field))

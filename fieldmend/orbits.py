@@ -3,7 +3,7 @@
 Places are numbered in order: row by row from the top, in a row from the left.
 """
 
-from fieldmend.texts import MISSING, chart_height, chart_knots, chart_width, rule_moves
+from fieldmend.texts import MISSING, chart_height, chart_knots, chart_width, colour_number, rule_moves
 
 
 class Field:
@@ -114,3 +114,29 @@ def filled_knots(field, ground):
         if filled[place] == MISSING:
             filled[place] = field.knots[leaders[first]] if first in leaders else ground
     return filled
+
+
+# A first place whose knot is missing gives no seed, whatever else its orbit has.
+def seed_knots(field):
+    return [knot if field.firsts[place] == place else MISSING for place, knot in enumerate(field.knots)]
+
+
+# From the first place of each orbit with knots to how many it has of each colour.
+def colour_tallies(field):
+    tallies = {}
+    for place, knot in enumerate(field.knots):
+        if knot != MISSING:
+            tally = tallies.setdefault(field.firsts[place], {})
+            tally[knot] = tally.get(knot, 0) + 1
+    return tallies
+
+
+def commonest_colour(tally):
+    return min(list(tally), key=lambda colour: (-tally[colour], colour_number(colour)))
+
+
+def mended_knots(field):
+    colours = {}
+    for first, tally in colour_tallies(field).items():
+        colours[first] = commonest_colour(tally)
+    return [colours.get(first, MISSING) for first in field.firsts]

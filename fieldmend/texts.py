@@ -25,6 +25,15 @@ def is_colour(byte):
     return 97 <= byte <= 122 or 65 <= byte <= 90 or is_digit(byte)
 
 
+# The document numbers a to z, then A to Z, then 0 to 9: not as the bytes run.
+def colour_number(byte):
+    if byte >= 97:
+        return byte - 97
+    if byte >= 65:
+        return 26 + byte - 65
+    return 52 + byte - DIGIT_0
+
+
 def is_knot(byte):
     return byte == MISSING or is_colour(byte)
 

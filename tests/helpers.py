@@ -20,6 +20,13 @@ def text(written):
     return [ord(sign) for sign in written.replace("/", "\n")]
 
 
+def written(answer):
+    """The text of an answer that holds one, written with / for byte 10; its first number says how long it is."""
+    if answer[0] != len(answer) - 1:
+        raise AssertionError(answer[:20])
+    return bytes(answer[1:]).decode("ascii").replace("\n", "/")
+
+
 def refuse_change(*args, **kwargs):
     raise AssertionError("what was handed in was changed")
 

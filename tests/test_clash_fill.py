@@ -1,7 +1,7 @@
 import unittest
 
 from fieldmend.desk import clash, fill
-from helpers import CallTest, GREATEST, SIXTEEN_MOVES, text
+from helpers import CallTest, GREATEST, SIXTEEN_MOVES, text, written
 from words import COLOURS, Worn, drawn
 
 
@@ -175,7 +175,7 @@ class Promises(FillTest):
             for ground in (0, 99):
                 answer = fill(ground, text(chart), text(rule))
                 if answer != [-9]:
-                    yield ground, chart, rule, "".join(chr(byte) for byte in answer[1:]).replace("\n", "/")
+                    yield ground, chart, rule, written(answer)
 
     def test_same_knots_as_before(self):
         for ground, chart, rule, filled in self.filled_charts():

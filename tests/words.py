@@ -96,6 +96,16 @@ class Worn:
         firsts = [orbit[0] for orbit in self.orbits]
         return self.written({place: self.colour[place] if place in firsts else "." for place in self.places})
 
+    def mended(self):
+        colour = dict(self.colour)
+        for orbit in self.orbits:
+            knots = [self.colour[place] for place in self.knots(orbit)]
+            if knots:
+                most = max(knots.count(one) for one in COLOURS)
+                [least, *others] = [one for one in COLOURS if knots.count(one) == most]
+                colour.update({place: least for place in orbit})
+        return self.written(colour)
+
 
 def drawn(number):
     """The chart and the rule of this number: always the same ones."""
