@@ -7,6 +7,7 @@ from fieldmend.orbits import (
     filled_knots,
     first_knots,
     mended_knots,
+    mending_cost,
     orbit_knots,
     orbit_sizes,
     seed_knots,
@@ -121,3 +122,10 @@ def mend(t, r):
         return [refused]
     field = Field(t, r)
     return text_answer(field, mended_knots(field))
+
+
+def cost(t, r):
+    refused = refusal(t, r)
+    if refused < 0:
+        return [refused]
+    return [mending_cost(Field(t, r))]

@@ -140,3 +140,9 @@ def mended_knots(field):
     for first, tally in colour_tallies(field).items():
         colours[first] = commonest_colour(tally)
     return [colours.get(first, MISSING) for first in field.firsts]
+
+
+# A missing knot that mending fills gets a colour, but not another one.
+def mending_cost(field):
+    mended = mended_knots(field)
+    return len([knot for place, knot in enumerate(field.knots) if knot != MISSING and knot != mended[place]])

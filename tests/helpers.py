@@ -43,6 +43,16 @@ def untouchable(value):
 
 
 class CallTest(unittest.TestCase):
+    def setUp(self):
+        self.addTypeEqualityFunc(list, self.same_lists)
+
+    def same_lists(self, answer, expected, msg=None):
+        """Says only where two lists part: unittest's own comparing of two long ones would take minutes."""
+        if answer != expected:
+            pairs = enumerate(zip(answer, expected))
+            place = next((number for number, (one, other) in pairs if one != other), min(len(answer), len(expected)))
+            self.fail(f"from number {place} on: {answer[place:][:20]} for {expected[place:][:20]}, {msg}")
+
     def check(self, call, handed, expected):
         """The answer to plain arguments and to untouchable ones, twice each, so that nothing can be kept."""
         for given in (copy.deepcopy(handed), tuple(untouchable(value) for value in handed)):
@@ -51,7 +61,7 @@ class CallTest(unittest.TestCase):
                 self.assertEqual(answer, expected, (turn, shown(handed)))
                 self.assertIs(type(answer), list)
                 self.assertEqual([type(number) for number in answer], [int] * len(expected))
-                self.assertEqual(given, handed)
+                self.assertTrue(given == handed, shown(handed))
 
     def ends_soon(self, call, *handed):
         """The answer, if it comes within some seconds and by few calls within one another."""

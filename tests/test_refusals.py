@@ -2,7 +2,7 @@
 
 import unittest
 
-from fieldmend.desk import clash, fill, mend, of, seeds, size
+from fieldmend.desk import clash, cost, fill, mend, of, seeds, size
 from helpers import CallTest, text
 
 LONG_CHART = "a" * 66049
@@ -16,7 +16,7 @@ QUARTER = "1 0 0/"
 
 # Each call with what is handed in ahead of the chart and the rule: what it takes, and what it refuses only later.
 CALLS = ((size, ()), (of, (0, 0)), (of, (4294967295, 4294967295)), (clash, ()), (fill, (0,)), (fill, (99,)), (fill, (46,)),
-         (fill, (4294967295,)), (seeds, ()), (mend, ()))
+         (fill, (4294967295,)), (seeds, ()), (mend, ()), (cost, ()))
 
 
 class Refusals(CallTest):

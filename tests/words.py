@@ -106,6 +106,16 @@ class Worn:
                 colour.update({place: least for place in orbit})
         return self.written(colour)
 
+    def carried(self, chart):
+        """Whether every move of the rule carries this chart into itself."""
+        colour = Worn(chart, "").colour
+        return all(colour[self.moved(move, place)] == colour[place] for move in self.moves for place in self.places)
+
+    def difference(self, chart):
+        """At how many of this chart's knots, not missing ones, the other chart is another."""
+        colour = Worn(chart, "").colour
+        return sum(1 for place in self.knots(self.places) if colour[place] != self.colour[place])
+
 
 def drawn(number):
     """The chart and the rule of this number: always the same ones."""
